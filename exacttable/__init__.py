@@ -1,0 +1,1 @@
+"""Exacttable: tables of counts with told sums, one by one and all together."""
