@@ -43,6 +43,13 @@ def is_table(frame, thing):
     return is_within(thing, frame.caps())
 
 
+def wanted_table_of(frame, thing):
+    """Return a copy of a table of the frame, or refuse what is none of it."""
+    if not is_table(frame, thing):
+        raise NoTable("this is no table of the frame")
+    return [list(row) for row in thing]
+
+
 def wanted_order(thing, many):
     """Return a copy of an order of so many places, or refuse what is none."""
     if not is_list(thing) or not all([is_place(item, many) for item in thing]):

@@ -29,6 +29,12 @@ BARRED_NODES = (
     ast.Global, ast.AsyncFor, ast.AsyncFunctionDef, ast.AsyncWith, ast.Await, ast.Import, ast.Div, ast.MatMult,
 )
 
+METHODS = set("""
+    append clear copy count endswith extend find get index insert isalnum isalpha isdigit islower isspace isupper
+    items join keys ljust lower lstrip partition pop remove replace reverse rfind rjust rpartition rsplit rstrip
+    setdefault split splitlines startswith strip update upper values zfill bit_length add discard
+""".split())
+
 DOUBLE = set("__init__ __eq__ __repr__ __str__ __len__ __enter__ __exit__ __call__ __iter__".split())
 
 
@@ -110,6 +116,48 @@ class Form(unittest.TestCase):
         for name, node in nodes():
             if isinstance(node, ast.Name) and isinstance(node.ctx, ast.Load):
                 self.assertTrue(node.id in own or node.id in BUILTINS, (name, node.id))
+
+    def test_called_methods_are_own_or_allowed(self):
+        own = {node.name for name, node in nodes() if isinstance(node, ast.FunctionDef)}
+        for name, node in nodes():
+            if isinstance(node, ast.Call) and isinstance(node.func, ast.Attribute):
+                self.assertTrue(node.func.attr in own or node.func.attr in METHODS, (name, node.func.attr))
+
+    def test_behind_a_star_stands_a_name(self):
+        for name, node in nodes():
+            if isinstance(node, ast.Starred):
+                self.assertIsInstance(node.value, ast.Name, (name, node.lineno))
+
+    def test_ranges_and_their_like_are_iterated_at_once(self):
+        for name, node in nodes():
+            if isinstance(node, (ast.Assign, ast.Return)) and isinstance(node.value, ast.Call):
+                called = node.value.func.id if isinstance(node.value.func, ast.Name) else node.value.func.attr
+                self.assertNotIn(called, ("range", "zip", "enumerate", "reversed", "items", "keys", "values"), name)
+
+    def test_imports_name_the_file_that_defines_and_go_round_nowhere(self):
+        trees = {path.stem: ast.parse(text) for path, text in sources()}
+        behind = {}
+        for stem, tree in trees.items():
+            asked = [node for node in tree.body if isinstance(node, ast.ImportFrom)]
+            behind[stem] = [node.module.removeprefix("exacttable.") for node in asked]
+            for node in asked:
+                defined = {bound for one in trees[node.module.removeprefix("exacttable.")].body
+                           for bound in (bound_names(one) or [target.id for target in getattr(one, "targets", [])])}
+                self.assertLessEqual({alias.name for alias in node.names}, defined, stem)
+        while behind:
+            ready = [stem for stem in behind if not set(behind[stem]) & set(behind)]
+            self.assertNotEqual(ready, [], behind)
+            for stem in ready:
+                del behind[stem]
+
+    def test_no_local_name_is_that_of_an_import_or_a_class(self):
+        for path, text in sources():
+            tree = ast.parse(text)
+            taken = {alias.name for node in tree.body if isinstance(node, ast.ImportFrom) for alias in node.names}
+            taken |= {node.name for node in tree.body if isinstance(node, ast.ClassDef)}
+            for node in ast.walk(tree):
+                if isinstance(node, (ast.arg, ast.Name)):
+                    self.assertEqual(set(bound_names(node)) & taken, set(), path.name)
 
     def test_no_numbers_with_a_point(self):
         for name, node in nodes():

@@ -1,6 +1,12 @@
 """What several tests hand in: made tables and frames, their forms, and wrong things."""
 
+import contextlib
+import itertools
+import random
+import signal
+
 from exacttable import errors
+from exacttable.frames import Frame
 
 GREATEST = 10 ** 12
 
@@ -114,3 +120,71 @@ def refusal(deed, *things):
     except errors.TableError as refused:
         return " ".join(name for name in NAMES if isinstance(refused, getattr(errors, name)))
     return "not refused"
+
+
+def rows_of(total, left, caps):
+    """All rows of a total with no number above what is left of its column or above its cap, gone through."""
+    ends = [most if cap is None else min(most, cap) for most, cap in zip(left, caps)]
+    return [row for row in itertools.product(*(range(end + 1) for end in ends)) if sum(row) == total]
+
+
+def all_tables(frame):
+    """All tables of a frame, gone through row by row and sorted; for frames of few."""
+    begun = [([], frame.columns())]
+    for total, caps in zip(frame.rows(), frame.caps()):
+        begun = [(done + [list(row)], [most - number for most, number in zip(left, row)])
+                 for done, left in begun for row in rows_of(total, left, caps)]
+    return sorted(done for done, left in begun if not any(left))
+
+
+def few_frames():
+    """Frames of few tables or none: of one to four rows and columns, with caps and without, agreeing or not."""
+    chance = random.Random(20)
+    frames = []
+    for height in range(1, 5):
+        for width in range(1, 5):
+            for turn in range(12):
+                most = 4 if height * width <= 6 else 2 if height * width <= 9 else 1
+                table = [[chance.randint(0, most) for column in range(width)] for row in range(height)]
+                rows, columns = sums_of(table)
+                if turn % 4 == 3:
+                    chance.choice((rows, columns))[0] += 1
+                caps = [[chance.choice((None, 0, 1, 2, number, number)) for number in row] for row in table]
+                frames.append(Frame(rows, columns, caps if turn % 3 else None))
+    return frames
+
+
+def great_table(height, width):
+    """A table whose sums come up to 10 ** 12."""
+    part = GREATEST // (max(height, width) * 40)
+    return [[part * ((5 * i + 3 * j + i * j) % 7 * 5) + 11 * i + 7 * j for j in range(width)] for i in range(height)]
+
+
+def great_frames():
+    """Frames of up to six rows and columns that have tables, with sums up to 10 ** 12, each with one of its tables."""
+    pairs = []
+    for height, width in sizes():
+        table = great_table(height, width)
+        rows, columns = sums_of(table)
+        loose = [[number + 10 ** 9 for number in row] for row in table]
+        for caps in (None, table, made_caps(table), loose):
+            pairs.append((Frame(rows, columns, caps), table))
+    corner = [[GREATEST * (i == j) for j in range(6)] for i in range(6)]
+    pairs.append((Frame([GREATEST] * 6, [GREATEST] * 6), corner))
+    pairs.append((Frame([GREATEST] * 6, [GREATEST] * 6, [[GREATEST] * 6] * 6), corner))
+    return pairs
+
+
+@contextlib.contextmanager
+def short_time(seconds=20):
+    """Fail if what is done within takes longer than this."""
+    def too_long(number, place):
+        raise AssertionError("this takes too long")
+
+    kept = signal.signal(signal.SIGALRM, too_long)
+    signal.alarm(seconds)
+    try:
+        yield
+    finally:
+        signal.alarm(0)
+        signal.signal(signal.SIGALRM, kept)

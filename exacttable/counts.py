@@ -1,0 +1,119 @@
+"""How many tables a small frame has, and which of them has which number."""
+
+from exacttable.checks import is_place
+from exacttable.errors import NoNumber, TooMany
+from exacttable.tables import wanted_table_of
+
+MOST_SMALL = 2000
+MOST_NARROW = 500
+
+
+class Rests:
+    """The cells of a frame whose both sums come to the same, filled in one behind another, in order.
+
+    A place is that of a cell among all. A REST is a tuple of what is left of the columns ahead of a place; what is
+    left of the place's row follows from it.
+    """
+
+    def __init__(self, frame):
+        row_sums = frame.rows()
+        self.whole_rest = tuple(frame.columns())
+        self.rows_behind = [sum(row_sums[row + 1:]) for row in range(len(row_sums))]
+        self.cell_bounds = frame.caps()
+        self.places = len(row_sums) * len(self.whole_rest)
+        self.found = {}
+
+    def ends(self, row, column, rest):
+        """Return the least and the greatest number that a cell can have; where none fits the least is greater."""
+        row_left = sum(rest) - self.rows_behind[row]
+        least = max(0, row_left - sum(rest[column + 1:]))
+        greatest = min(row_left, rest[column])
+        bound = self.cell_bounds[row][column]
+        if bound is not None:
+            greatest = min(greatest, bound)
+        return least, greatest
+
+    def choices(self, place, rest):
+        """Return the numbers that the cell at a place can have, rising, each with the rest behind it."""
+        row, column = divmod(place, len(rest))
+        least, greatest = self.ends(row, column, rest)
+        return [(number, rest[:column] + (rest[column] - number,) + rest[column + 1:])
+                for number in range(least, greatest + 1)]
+
+    def ways(self, place, rest):
+        """Return in how many ways the cells from a place on can be filled in."""
+        if place == self.places:
+            return 1
+        # Many tables come by the same rest, so each is looked at but once.
+        if (place, rest) not in self.found:
+            behind = [self.ways(place + 1, after) for number, after in self.choices(place, rest)]
+            self.found[(place, rest)] = sum(behind)
+        return self.found[(place, rest)]
+
+
+def is_small(frame):
+    """Tell whether the product of all column sums, each and one more, is at most 2,000."""
+    product = 1
+    for column_sum in frame.columns():
+        product *= column_sum + 1
+    return product <= MOST_SMALL
+
+
+def want_small(frame):
+    """Refuse a frame that isn't small."""
+    if not is_small(frame):
+        raise TooMany("the frame isn't small")
+
+
+def counted(frame):
+    """Return how many tables a small frame has."""
+    want_small(frame)
+    if sum(frame.rows()) != sum(frame.columns()):
+        return 0
+    rests = Rests(frame)
+    return rests.ways(0, rests.whole_rest)
+
+
+def is_narrow(frame):
+    """Tell whether the frame is small and has at most 500 tables."""
+    return is_small(frame) and counted(frame) <= MOST_NARROW
+
+
+def number_of(frame, table):
+    """Return how many tables of a small frame come ahead of this one."""
+    want_small(frame)
+    rows = wanted_table_of(frame, table)
+    rests = Rests(frame)
+    rest = rests.whole_rest
+    ahead = 0
+    for place, number in enumerate([cell for row in rows for cell in row]):
+        choices = rests.choices(place, rest)
+        ahead += sum([rests.ways(place + 1, after) for lesser, after in choices if lesser < number])
+        rest = dict(choices)[number]
+    return ahead
+
+
+def choice_at(rests, place, rest, number):
+    """Return the choice for a cell in the table of this number among those of a rest, and its number behind it."""
+    choices = rests.choices(place, rest)
+    at = 0
+    number_left = number
+    while number_left >= rests.ways(place + 1, choices[at][1]):
+        number_left -= rests.ways(place + 1, choices[at][1])
+        at += 1
+    return choices[at], number_left
+
+
+def table_at(frame, number):
+    """Return the table of a small frame that has this number."""
+    if not is_place(number, counted(frame)):
+        raise NoNumber("no table has this number")
+    rests = Rests(frame)
+    rest = rests.whole_rest
+    width = len(rest)
+    numbers = []
+    number_left = number
+    for place in range(rests.places):
+        (chosen, rest), number_left = choice_at(rests, place, rest, number_left)
+        numbers.append(chosen)
+    return [numbers[at:at + width] for at in range(0, len(numbers), width)]
