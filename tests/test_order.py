@@ -151,7 +151,8 @@ class Great(unittest.TestCase):
 
     def test_all_of_great_frames_by_what_their_caps_leave_over(self):
         """Caps that leave little over: what each cell has less than its cap is a table of a frame of few."""
-        for over in (Frame([4, 3], [2, 1, 4]), Frame([2, 1, 2], [1, 3, 1]), Frame([1, 0, 2, 1], [1, 1, 1, 1])):
+        for over in (Frame([4, 3], [2, 1, 4]), Frame([2, 1, 2], [1, 3, 1]), Frame([1, 0, 2, 1], [1, 1, 1, 1]),
+                     Frame([1, 0, 2, 0, 1, 0], [0, 1, 1, 0, 1, 1]), Frame([2, 0, 0, 1, 0, 1], [1, 1, 0, 0, 0, 2])):
             rows, columns = over.rows(), over.columns()
             caps = [[GREATEST // 7 + 1000 * i + j * j for j in range(len(columns))] for i in range(len(rows))]
             row_caps, column_caps = sums_of(caps)
