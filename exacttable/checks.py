@@ -19,6 +19,11 @@ def is_place(thing, many):
     return is_whole(thing) and 0 <= thing < many
 
 
+def are_unlike_places(one, other, many):
+    """Tell whether these are two unlike ones of so many places."""
+    return is_place(one, many) and is_place(other, many) and one != other
+
+
 def is_list(thing):
     """Tell whether this is a list; one that is handed in may be a tuple."""
     return isinstance(thing, (list, tuple))
@@ -32,3 +37,10 @@ def is_short_list(thing):
 def are_counts(thing):
     """Tell whether this is a list of one to six whole numbers from 0 to 10 ** 12."""
     return is_short_list(thing) and all([is_count(item) for item in thing])
+
+
+def are_rows(thing, height, width):
+    """Tell whether this is a list of so many rows, each a list of so many things."""
+    if not is_list(thing) or len(thing) != height:
+        return False
+    return all([is_list(row) and len(row) == width for row in thing])

@@ -8,15 +8,24 @@ MOST_SMALL = 2000
 MOST_NARROW = 500
 
 
+class Alike:
+    """A weigher by which each number weighs 1 in each cell, so that tables are counted."""
+
+    def cell_weight(self, row, column, left, number):
+        """Return what a number in a cell weighs, where so much is left of the column ahead of it."""
+        return 1
+
+
 class Rests:
     """The cells of a frame whose both sums come to the same, filled in one behind another, in order.
 
     A place is that of a cell among all. A REST is a tuple of what is left of the columns ahead of a place; what is
-    left of the place's row follows from it.
+    left of the place's row follows from it. What a table weighs is the product of what the weigher tells of its cells.
     """
 
-    def __init__(self, frame):
+    def __init__(self, frame, weigher):
         row_sums = frame.rows()
+        self.weigher = weigher
         self.whole_rest = tuple(frame.columns())
         self.rows_behind = [sum(row_sums[row + 1:]) for row in range(len(row_sums))]
         self.cell_bounds = frame.caps()
@@ -40,14 +49,16 @@ class Rests:
         return [(number, rest[:column] + (rest[column] - number,) + rest[column + 1:])
                 for number in range(least, greatest + 1)]
 
-    def ways(self, place, rest):
-        """Return in how many ways the cells from a place on can be filled in."""
+    def weight_behind(self, place, rest):
+        """Return what all fillings of the cells from a place on weigh together."""
         if place == self.places:
             return 1
         # Many tables come by the same rest, so each is looked at but once.
         if (place, rest) not in self.found:
-            behind = [self.ways(place + 1, after) for number, after in self.choices(place, rest)]
-            self.found[(place, rest)] = sum(behind)
+            row, column = divmod(place, len(rest))
+            self.found[(place, rest)] = sum([
+                self.weigher.cell_weight(row, column, rest[column], number) * self.weight_behind(place + 1, after)
+                for number, after in self.choices(place, rest)])
         return self.found[(place, rest)]
 
 
@@ -65,13 +76,18 @@ def want_small(frame):
         raise TooMany("the frame isn't small")
 
 
+def weighed_together(frame, weigher):
+    """Return what all tables of a small frame weigh together."""
+    if sum(frame.rows()) != sum(frame.columns()):
+        return 0
+    rests = Rests(frame, weigher)
+    return rests.weight_behind(0, rests.whole_rest)
+
+
 def counted(frame):
     """Return how many tables a small frame has."""
     want_small(frame)
-    if sum(frame.rows()) != sum(frame.columns()):
-        return 0
-    rests = Rests(frame)
-    return rests.ways(0, rests.whole_rest)
+    return weighed_together(frame, Alike())
 
 
 def is_narrow(frame):
@@ -83,12 +99,12 @@ def number_of(frame, table):
     """Return how many tables of a small frame come ahead of this one."""
     want_small(frame)
     rows = wanted_table_of(frame, table)
-    rests = Rests(frame)
+    rests = Rests(frame, Alike())
     rest = rests.whole_rest
     ahead = 0
     for place, number in enumerate([cell for row in rows for cell in row]):
         choices = rests.choices(place, rest)
-        ahead += sum([rests.ways(place + 1, after) for lesser, after in choices if lesser < number])
+        ahead += sum([rests.weight_behind(place + 1, after) for lesser, after in choices if lesser < number])
         rest = dict(choices)[number]
     return ahead
 
@@ -98,8 +114,8 @@ def choice_at(rests, place, rest, number):
     choices = rests.choices(place, rest)
     at = 0
     number_left = number
-    while number_left >= rests.ways(place + 1, choices[at][1]):
-        number_left -= rests.ways(place + 1, choices[at][1])
+    while number_left >= rests.weight_behind(place + 1, choices[at][1]):
+        number_left -= rests.weight_behind(place + 1, choices[at][1])
         at += 1
     return choices[at], number_left
 
@@ -108,7 +124,7 @@ def table_at(frame, number):
     """Return the table of a small frame that has this number."""
     if not is_place(number, counted(frame)):
         raise NoNumber("no table has this number")
-    rests = Rests(frame)
+    rests = Rests(frame, Alike())
     rest = rests.whole_rest
     width = len(rest)
     numbers = []

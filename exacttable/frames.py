@@ -1,17 +1,12 @@
 """Frames: told sums of rows and columns, and caps of cells."""
 
-from exacttable.checks import are_counts, is_count, is_list, is_place
+from exacttable.checks import are_counts, are_rows, is_count, is_place
 from exacttable.errors import NoCaps, NoCell, NoSums
 
 
 def is_cap(thing):
     """Tell whether this is a cap, or None for a cell that isn't bound."""
     return thing is None or is_count(thing)
-
-
-def is_cap_row(thing, width):
-    """Tell whether this is a list of so many caps."""
-    return is_list(thing) and len(thing) == width and all([is_cap(item) for item in thing])
 
 
 def wanted_sums(thing):
@@ -25,10 +20,8 @@ def wanted_caps(thing, height, width):
     """Return a copy of the caps for so many rows and columns, or refuse what are none."""
     if thing is None:
         return ((None,) * width,) * height
-    if not is_list(thing) or len(thing) != height:
-        raise NoCaps("caps are a list of as many rows as there are row sums")
-    if not all([is_cap_row(row, width) for row in thing]):
-        raise NoCaps("a row of caps has for each column a whole number from 0 to 10 ** 12, or None")
+    if not are_rows(thing, height, width) or not all([is_cap(item) for row in thing for item in row]):
+        raise NoCaps("caps are rows of whole numbers from 0 to 10 ** 12, or None, one for each cell")
     return tuple([tuple(row) for row in thing])
 
 

@@ -1,6 +1,6 @@
 """Tables: their sums, whether they are those of a frame, and both exchanged and joined."""
 
-from exacttable.checks import GREATEST, are_counts, is_list, is_place, is_short_list
+from exacttable.checks import GREATEST, are_counts, are_unlike_places, is_list, is_place, is_short_list
 from exacttable.errors import NoColumns, NoOrder, NoTable
 from exacttable.frames import Frame
 
@@ -84,7 +84,7 @@ def exchanged_table(table, order, other):
 
 def wanted_columns(j, k, many):
     """Return the numbers of two unlike columns, the lesser one first, or refuse what are none."""
-    if not is_place(j, many) or not is_place(k, many) or j == k:
+    if not are_unlike_places(j, k, many):
         raise NoColumns("these are no two unlike columns' numbers")
     return min(j, k), max(j, k)
 

@@ -164,6 +164,33 @@ class Form(unittest.TestCase):
             if isinstance(node, ast.Constant):
                 self.assertNotIsInstance(node.value, (float, complex), name)
 
+    def test_powers_have_a_literal_exponent(self):
+        for name, node in nodes():
+            if isinstance(node, (ast.BinOp, ast.AugAssign)) and isinstance(node.op, ast.Pow):
+                exponent = node.right if isinstance(node, ast.BinOp) else node.value
+                self.assertIsInstance(exponent, ast.Constant, (name, node.lineno))
+                self.assertIn(exponent.value, range(65), (name, node.lineno))
+
+    def test_is_stands_before_none_true_and_false_alone(self):
+        for name, node in nodes():
+            if isinstance(node, ast.Compare):
+                for sign, other in zip(node.ops, node.comparators):
+                    if isinstance(sign, (ast.Is, ast.IsNot)):
+                        self.assertIsInstance(other, ast.Constant, (name, node.lineno))
+
+    def test_functions_out_of_a_table_are_given_a_name_first(self):
+        for name, node in nodes():
+            if isinstance(node, ast.Call):
+                self.assertIsInstance(node.func, (ast.Name, ast.Attribute), (name, node.lineno))
+
+    def test_what_is_raised_is_made_on_the_spot(self):
+        for name, node in nodes():
+            if isinstance(node, ast.Raise):
+                self.assertIsInstance(node.exc, ast.Call, (name, node.lineno))
+                self.assertIsInstance(node.exc.func, ast.Name, (name, node.lineno))
+            if isinstance(node, ast.ExceptHandler):
+                self.assertIsInstance(node.type, ast.Name, (name, node.lineno))
+
     def test_strings_have_no_percent_sign(self):
         for name, node in nodes():
             if isinstance(node, ast.Constant) and isinstance(node.value, str):

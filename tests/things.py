@@ -2,6 +2,7 @@
 
 import contextlib
 import itertools
+import math
 import random
 import signal
 
@@ -173,6 +174,97 @@ def great_frames():
     pairs.append((Frame([GREATEST] * 6, [GREATEST] * 6), corner))
     pairs.append((Frame([GREATEST] * 6, [GREATEST] * 6, [[GREATEST] * 6] * 6), corner))
     return pairs
+
+
+def free_ones(frames):
+    """Those of these frames in which no cell has a cap."""
+    return [frame for frame in frames if all(cap is None for row in frame.caps() for cap in row)]
+
+
+def turned_round(table):
+    """A table of the same sums that is far away: as many numbers as can be on the other slant."""
+    left, below = sums_of(table)
+    other = [[0] * len(below) for row in left]
+    for i in range(len(left)):
+        for j in reversed(range(len(below))):
+            other[i][j] = min(left[i], below[j])
+            left[i] -= other[i][j]
+            below[j] -= other[i][j]
+    return other
+
+
+def chance_pair(chance, height, width):
+    """Two tables of one frame by chance, with sums up to 10 ** 12."""
+    most = GREATEST // max(height, width)
+    one = [[chance.randint(0, most) * chance.randint(0, 1) for column in range(width)] for row in range(height)]
+    other = [list(row) for row in one]
+    for turn in range(60 if height > 1 and width > 1 else 0):
+        row, other_row = chance.sample(range(height), 2)
+        column, other_column = chance.sample(range(width), 2)
+        amount = chance.randint(0, min(other[row][column], other[other_row][other_column]))
+        other[row][column] -= amount
+        other[other_row][other_column] -= amount
+        other[row][other_column] += amount
+        other[other_row][column] += amount
+    return one, other
+
+
+def some_kinds(height, width):
+    """Kinds of weights for so many rows and columns, some with factors of 0."""
+    return [
+        ("once",), ("ways",), ("factors", [[1] * width] * height), ("factors", [[0] * width] * height),
+        ("factors", [[(3 * i + 5 * j) % 4 for j in range(width)] for i in range(height)]),
+        ("factors", [[10 ** 6 - i * width - j for j in range(width)] for i in range(height)]),
+        ("factors", tuple(tuple(0 if i == j == 0 else 2 + i + j for j in range(width)) for i in range(height))),
+    ]
+
+
+def weighed(table, kind):
+    """What a table weighs, by factorials and powers."""
+    if kind[0] == "once":
+        return 1
+    if kind[0] == "factors":
+        return math.prod(factor ** number for rows in zip(kind[1], table) for factor, number in zip(*rows))
+    return math.prod(math.factorial(sum(column)) // math.prod(math.factorial(number) for number in column)
+                     for column in zip(*table))
+
+
+def no_rows(height, width, fill):
+    """Things that are no rows of so many rows and columns."""
+    row = [fill] * width
+    wrong = no_lists() + [[], (), endless_list(), [[]] * height, row, [row] * (height - 1), [row] * (height + 1)]
+    wrong += [[row + [fill]] * height, [row[1:]] * height, [row] * (height - 1) + [row + [fill]]]
+    wrong += [[row] * (height - 1) + [row[1:]], [[row] * height], [row] * (height - 1) + [set(row)]]
+    return wrong + [[row] * (height - 1) + [thing] for thing in no_lists() + [str(fill) * width]]
+
+
+def with_one_other(height, width, fill, other):
+    """Rows alike in all cells but one, for each cell."""
+    made = []
+    for i, j in itertools.product(range(height), range(width)):
+        rows = [[fill] * width for row in range(height)]
+        rows[i][j] = other
+        made.append(rows)
+    return made
+
+
+def no_kinds(height, width):
+    """Things that are no kinds of weights for so many rows and columns."""
+    rows = [[1] * width] * height
+    wrong = no_lists() + no_numbers() + ["once", "ways", "factors", (), ["once"], ["ways"], ["factors", rows]]
+    wrong += [("factors",), ("once", None), ("ways", rows), ("once", rows), ("once", "once"), ("factors", rows, rows)]
+    wrong += [("factors", rows, None), ("Once",), ("once ",), ("",), ("way",), ("factor", rows), (rows, "factors")]
+    wrong += [("on", "ce"), (("once",),), (b"once",), (["once"],), (Hostile(),), ("factors", Hostile()), (None,)]
+    wrong += [(0,), (True,), ("once", Hostile()), (Hostile(), rows), ({"once"},), {"once"}, {"once": 1}]
+    wrong += [("factors", thing) for thing in no_rows(height, width, 1)]
+    for thing in no_numbers() + [-1, 10 ** 6 + 1, 10 ** 59, -(10 ** 59), 10 ** 5000]:
+        wrong += [("factors", made) for made in with_one_other(height, width, 1, thing)]
+    return wrong
+
+
+def apart(one, other):
+    """How much two tables differ, cell by cell."""
+    return sum(abs(number - wanted) for numbers in zip(one, other) for number, wanted in zip(*numbers))
 
 
 @contextlib.contextmanager
