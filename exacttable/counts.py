@@ -95,6 +95,31 @@ def is_narrow(frame):
     return is_small(frame) and counted(frame) <= MOST_NARROW
 
 
+def want_narrow(frame):
+    """Refuse a frame that isn't narrow."""
+    if not is_narrow(frame):
+        raise TooMany("the frame isn't narrow")
+
+
+def as_rows(numbers, width):
+    """Return the numbers of a table, told one behind another, as rows."""
+    return [list(numbers[at:at + width]) for at in range(0, len(numbers), width)]
+
+
+def narrow_tables(frame):
+    """Return all tables of a narrow frame, in order."""
+    want_narrow(frame)
+    if counted(frame) == 0:
+        return []
+    rests = Rests(frame, Alike())
+    begun = [((), rests.whole_rest)]
+    for place in range(rests.places):
+        # What can't be filled in to the end is left out at once, so there are never more begun than tables.
+        begun = [(numbers + (number,), after) for numbers, rest in begun
+                 for number, after in rests.choices(place, rest) if rests.weight_behind(place + 1, after) > 0]
+    return [as_rows(numbers, len(rest)) for numbers, rest in begun]
+
+
 def number_of(frame, table):
     """Return how many tables of a small frame come ahead of this one."""
     want_small(frame)
@@ -126,10 +151,9 @@ def table_at(frame, number):
         raise NoNumber("no table has this number")
     rests = Rests(frame, Alike())
     rest = rests.whole_rest
-    width = len(rest)
     numbers = []
     number_left = number
     for place in range(rests.places):
         (chosen, rest), number_left = choice_at(rests, place, rest, number_left)
         numbers.append(chosen)
-    return [numbers[at:at + width] for at in range(0, len(numbers), width)]
+    return as_rows(numbers, len(rest))

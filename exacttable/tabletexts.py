@@ -17,10 +17,10 @@ def table_text(table):
     return "; ".join([row_text(row) for row in wanted_table(table)])
 
 
-def is_number_text(text):
-    """Tell whether these are figures without noughts ahead, no more of them than the greatest number has."""
+def is_number_text(text, longest):
+    """Tell whether these are figures without noughts ahead, and no more of them than so many."""
     # The length comes first, for Python won't turn figures by the thousand into a number.
-    if not 1 <= len(text) <= len(str(GREATEST)):
+    if not 1 <= len(text) <= longest:
         return False
     if not all([sign in FIGURES for sign in text]):
         return False
@@ -29,7 +29,7 @@ def is_number_text(text):
 
 def read_number(text):
     """Return the number that is written, or refuse what is none."""
-    if not is_number_text(text):
+    if not is_number_text(text, len(str(GREATEST))):
         raise NoText("a number is written in figures, without noughts ahead and without a sign")
     return int(text)
 

@@ -87,10 +87,11 @@ class Rings(Checked):
 
     def test_all_pairs_of_small_frames(self):
         done = capped = 0
+        slant = [[0 if i == j else 1 for j in range(4)] for i in range(4)]
         for frame in few_frames() + [Frame([2, 2, 2], [2, 2, 2]), Frame([1] * 4, [1] * 4),
                                      Frame([3, 1, 2], [1, 2, 2, 1], [[None, 1, 1, None]] * 3),
                                      Frame([2, 3, 2], [2, 2, 3], [[None, 1, 2], [1, 2, 2], [2, None, 1]]),
-                                     Frame([2] * 4, [2] * 4, [[0 if i == j else 1 for j in range(4)] for i in range(4)]),
+                                     Frame([2] * 4, [2] * 4, slant),
                                      Frame([4, 4, 4], [4, 4, 4], [[2, None, 2], [None, 0, None], [2, None, 2]])]:
             tables = all_tables(frame)
             if len(tables) <= 70:

@@ -262,6 +262,47 @@ def no_kinds(height, width):
     return wrong
 
 
+def some_scores(height, width):
+    """Scores for so many rows and columns, below 0 and up to 10 ** 6 either way."""
+    return [
+        [[0] * width] * height,
+        [[1 if i == j == 0 else 0 for j in range(width)] for i in range(height)],
+        [[i * j - 2 * i + 3 for j in range(width)] for i in range(height)],
+        [[(10 ** 6) * (-1) ** (i + j) for j in range(width)] for i in range(height)],
+        tuple(tuple((7 * i + 3 * j + i * j) % 5 - 3 for j in range(width)) for i in range(height)),
+    ]
+
+
+def scored(table, scores):
+    """The score of a table, cell by cell."""
+    return sum(number * worth for rows in zip(table, scores) for number, worth in zip(*rows))
+
+
+def no_scores(height, width):
+    """Things that are no scores for so many rows and columns."""
+    wrong = no_rows(height, width, 1) + no_numbers()
+    for thing in no_numbers() + [10 ** 6 + 1, -(10 ** 6) - 1, 10 ** 59, -(10 ** 59), 10 ** 5000]:
+        wrong += with_one_other(height, width, 1, thing)
+    return wrong
+
+
+def narrow_frames():
+    """Narrow frames of few tables or none, each with all of them."""
+    frames = few_frames() + [
+        Frame([2, 2, 2], [2, 2, 2]), Frame([3, 1, 2], [1, 2, 2, 1], [[None, 1, 1, None]] * 3), Frame([1] * 4, [1] * 4),
+        Frame([2, 3, 2], [2, 2, 3], [[None, 1, 2], [1, 2, 2], [2, None, 1]]), Frame([7, 6], [4, 9], [[None, 8]] * 2),
+        Frame([4, 4, 4], [4, 4, 4], [[2, None, 2], [None, 0, None], [2, None, 2]]),
+    ]
+    pairs = []
+    for at, frame in enumerate(frames):
+        tables = all_tables(frame)
+        # Of the many with one table or none a few are enough.
+        if 2 <= len(tables) <= 40 or len(tables) < 2 and at % 5 == 3:
+            if math.prod(total + 1 for total in frame.columns()) <= 2000:
+                pairs.append((frame, tables))
+    return pairs
+
+
 def apart(one, other):
     """How much two tables differ, cell by cell."""
     return sum(abs(number - wanted) for numbers in zip(one, other) for number, wanted in zip(*numbers))
