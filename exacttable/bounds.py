@@ -9,7 +9,7 @@ def bounds(frame, row, column):
     # The cap is asked for its refusal of what is no cell, which comes first.
     frame.cap(row, column)
     lessened, raised = some_filling(frame), some_filling(frame)
-    if lessened is None or raised is None:
+    if lessened is None:
         raise NoTable("the frame has no table")
     lessened.lessen_fully(row, column)
     raised.raise_fully(row, column)

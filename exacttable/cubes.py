@@ -63,7 +63,7 @@ def rows_left(rows, layer):
 def cubes(front, side, top):
     """Return all cubes that have these three faces, in order."""
     want_faces(front, side, top)
-    begun = [([], [list(row) for row in front])]
+    begun = [([], front)]
     for row_sums, column_sums in zip(side, top):
         # So few are in the front that a layer within it never comes to more tables than are listed.
         begun = [(layers + [layer], rows_left(left, layer)) for layers, left in begun

@@ -55,7 +55,7 @@ def wanted_weigher(frame, kind):
     if kind[0] == "ways" and len(kind) == 1:
         return Ways(max(columns))
     if kind[0] == "factors" and len(kind) == 2 and are_factors(kind[1], len(frame.rows()), len(columns)):
-        return Factors([list(row) for row in kind[1]])
+        return Factors(kind[1])
     raise NoKind("a kind is once, or ways, or factors with a whole number from 0 to 10 ** 6 for each cell")
 
 

@@ -221,10 +221,12 @@ class Own(unittest.TestCase):
         self.assertEqual(told, kept)
 
     def test_changing_one_cube_changes_no_other_one(self):
-        front, side, top = [[2, 1, 1], [1, 1, 1], [0, 1, 1]], [[2, 1, 1], [2, 2, 1]], [[1, 2, 1], [2, 1, 2]]
+        front, side = [[2, 1, 1], [1, 2, 1], [1, 1, 2]], [[2, 1, 1], [1, 2, 1], [1, 1, 2]]
+        top = copy.deepcopy(side)
         answer = cubes(front, side, top)
         kept = copy.deepcopy(answer)
         self.assertGreater(len(answer), 2)
+        self.assertTrue(any(one[0] == other[0] for one, other in itertools.combinations(answer, 2)))
         layers = [id(layer) for cube in answer for layer in cube]
         rows = [id(row) for cube in answer for layer in cube for row in layer]
         self.assertEqual((len(set(layers)), len(set(rows))), (len(layers), len(rows)))

@@ -103,6 +103,16 @@ class Spreads(unittest.TestCase):
         self.assertEqual(refusal(spread, TOO_WIDE, scores, ("once",)), "TooMany")
         self.assertEqual(refusal(share, TOO_WIDE, scores, 7, ("once",)), "TooMany")
 
+    def test_few_tables_among_many_that_can_be_begun(self):
+        caps = [[None] * 3] * 4 + [[0, 0, 6], [0, 1, 6]]
+        frame = Frame([5, 5, 5, 6, 6, 7], [11, 11, 12], caps)
+        begun = Frame([5, 5, 5, 6], [11, 10, 0])
+        tables = [table + [[0, 0, 6], [0, 1, 6]] for table in all_tables(begun)]
+        self.assertEqual(len(tables), 161)
+        for scores, kind in itertools.product(some_scores(6, 3), some_kinds(6, 3)):
+            with short_time():
+                self.assertEqual(spread(frame, scores, kind), spread_by_hand(tables, scores, kind))
+
     def test_great_columns(self):
         scores = [[10 ** 6, -10 ** 6], [-10 ** 6, 10 ** 6]]
         frame = Frame([500, 500], [999, 1])
